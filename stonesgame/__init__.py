@@ -1,0 +1,1 @@
+"""Stones on a board: the game of Go."""
