@@ -1,4 +1,4 @@
-"""The points of a board, and the chains of stones that stand on them.
+"""The points of a board, and what hangs together on it: chains, and other parts.
 
 A board's points are kept in one list, row by row: the point (x, y) of a board
 that is size by size stands at y * size + x.
@@ -54,3 +54,40 @@ def smothered_beside(stones, beside, start, colour):
             for lost in smothered_chain(stones, beside, point):
                 smothered[lost] = True
     return list(smothered)
+
+
+def part_at(stones, beside, start, colours):
+    """The points come to from start by steps to points of these colours."""
+    part = [start]
+    found = {start: True}
+    done = 0
+    while done < len(part):
+        for point in beside[part[done]]:
+            if point not in found and stones[point] in colours:
+                found[point] = True
+                part.append(point)
+        done += 1
+    return part
+
+
+def all_parts(stones, beside, colours):
+    """All points of these colours, as the parts that they hang together in."""
+    found = {}
+    parts = []
+    for start in range(len(stones)):
+        if stones[start] in colours and start not in found:
+            part = part_at(stones, beside, start, colours)
+            for point in part:
+                found[point] = True
+            parts.append(part)
+    return parts
+
+
+def liberties(stones, beside, chain):
+    """The empty points beside a chain, each of them once."""
+    empty = {}
+    for stone in chain:
+        for point in beside[stone]:
+            if stones[point] == EMPTY:
+                empty[point] = True
+    return list(empty)

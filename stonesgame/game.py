@@ -47,6 +47,10 @@ class Game:
         """Whether the board has the point (x, y)."""
         return x >= 0 and x < self.size and y >= 0 and y < self.size
 
+    def point_at(self, x, y):
+        """Where the point (x, y) of the board stands in the list of its stones."""
+        return y * self.size + x
+
     def is_at_end(self):
         """Whether the last two turns were passes."""
         last = self.turns[-2:]
@@ -64,10 +68,20 @@ class Game:
         """Take a turn that puts a stone on (x, y), or tell why it can't be."""
         if not self.is_on_board(x, y):
             return NOT_ON_BOARD
+        return self.take_turn(self.point_at(x, y))
+
+    def pass_turn(self):
+        """Take a turn that is a pass, or tell why it can't be."""
+        return self.take_turn(PASSED)
+
+    def take_turn(self, point):
+        """Take a turn on a point of the board, or a pass, or tell why it can't be."""
         refusal = self.turn_refusal()
         if refusal != DONE:
             return refusal
-        point = y * self.size + x
+        if point == PASSED:
+            self.turns.append((PASSED, []))
+            return DONE
         if self.stones[point] != EMPTY:
             return NOT_EMPTY
         return self.put_stone(point)
@@ -90,13 +104,6 @@ class Game:
         self.taken_off[other(colour)] += len(taken)
         self.turns.append((point, taken))
         return DONE
-
-    def pass_turn(self):
-        """Take a turn that is a pass, or tell why it can't be."""
-        refusal = self.turn_refusal()
-        if refusal == DONE:
-            self.turns.append((PASSED, []))
-        return refusal
 
     def undo(self):
         """Take the last turn back, or tell that there has been none."""

@@ -1,5 +1,7 @@
 """What the tests share: calls as numbers, answers one by one, a slow second game."""
 
+import re
+
 from stonesgame.board import answers
 
 
@@ -14,6 +16,33 @@ def play(x, y):
 PASS = [2]
 UNDO = [3]
 BOARD = [4]
+
+
+def group(x, y):
+    return [5, x, y]
+
+
+AREA = [6]
+LIVES = [7]
+
+
+def load(record):
+    """A load of a record that is told as a text or as a list of bytes."""
+    signs = list(record.encode("latin-1")) if isinstance(record, str) else list(record)
+    return [8, len(signs), *signs]
+
+
+def save(most):
+    return [9, most]
+
+
+def record(n, turns):
+    """The record of turns that are told as calls, black's first."""
+    text = f"(;FF[4]GM[1]SZ[{n}]"
+    for k, turn in enumerate(turns):
+        place = "" if turn == PASS else chr(97 + turn[1]) + chr(97 + turn[2])
+        text += f";{'BW'[k % 2]}[{place}]"
+    return text + ")"
 
 
 def joined(calls):
@@ -83,6 +112,11 @@ def drawn(text, first):
         calls.append(PASS)
     check_drawn(text, calls)
     return calls
+
+
+def after(text, first, *calls):
+    """What the calls answer behind those that lead to a drawn board."""
+    return ask(begin(len(text.split())), *drawn(text, first), *calls)[-len(calls):]
 
 
 def check_drawn(text, calls):
@@ -183,6 +217,93 @@ class SlowGame:
         end = 1 if self.at_end() else 0
         return [len(self.turns), *points, self.colour(), end, *self.taken[-1]]
 
+    def group(self, place):
+        board = self.boards[-1]
+        if not self.on_board(place):
+            return [-2]
+        if place not in board:
+            return [0]
+        chain = self.chain(board, place)
+        return [board[place], len(chain), len(self.liberties(board, chain))]
+
+    def places(self):
+        return {(x, y) for x in range(self.n) for y in range(self.n)}
+
+    def touch(self, some, others):
+        """Whether a place of some lies beside one of the others."""
+        return any(self.beside(place) & others for place in some)
+
+    def parts(self, places):
+        """The places, fallen apart into those that hang together."""
+        parts = []
+        for place in places:
+            joined_parts = [part for part in parts if self.touch({place}, part)]
+            parts = [part for part in parts if part not in joined_parts]
+            parts.append({place}.union(*joined_parts))
+        return parts
+
+    def area(self):
+        board = self.boards[-1]
+        sizes = [0, 0]
+        parts = self.parts(self.places() - set(board))
+        for colour in (1, 2):
+            own = {place for place in board if board[place] == colour}
+            others = set(board) - own
+            room = [part for part in parts if self.touch(part, own) and not self.touch(part, others)]
+            sizes[colour - 1] = len(own) + sum(len(part) for part in room)
+        return [0, *sizes]
+
+    def vital(self, piece, chain):
+        empty = piece - set(self.boards[-1])
+        return len(empty) > 0 and all(self.beside(place) & chain for place in empty)
+
+    def living(self, colour):
+        """All places of a colour's stones that live."""
+        own = {place for place, stone in self.boards[-1].items() if stone == colour}
+        chains = self.parts(own)
+        pieces = self.parts(self.places() - own)
+        while True:
+            out = [chain for chain in chains if sum(self.vital(piece, chain) for piece in pieces) < 2]
+            if not out:
+                return set().union(*chains)
+            chains = [chain for chain in chains if chain not in out]
+            pieces = [piece for piece in pieces if not any(self.touch(piece, chain) for chain in out)]
+
+    def lives(self):
+        living = {1: self.living(1), 2: self.living(2)}
+        points = [0] * 361
+        for colour in (1, 2):
+            for x, y in living[colour]:
+                points[y * self.n + x] = colour
+        return [len(living[1]) + len(living[2]), *points]
+
+    def load(self, signs):
+        text = bytes(signs).decode("latin-1")
+        match = re.fullmatch(r"\(;FF\[4\]GM\[1\]SZ\[([2-9]|1[0-9])\]((?:;[BW]\[(?:[a-s][a-s])?\])*)\)", text)
+        if match is None:
+            return -1
+        game = SlowGame(int(match[1]))
+        turns = re.findall(r";([BW])\[(.*?)\]", match[2])
+        places = [(ord(letters[0]) - 97, ord(letters[1]) - 97) if letters else None for colour, letters in turns]
+        if any(place is not None and not game.on_board(place) for place in places):
+            return -1
+        if "".join(colour for colour, letters in turns) != ("BW" * len(turns))[:len(turns)]:
+            return -1
+        for k, place in enumerate(places):
+            if game.take_turn(place) != 0:
+                return -100 - (k + 1)
+        self.n, self.boards, self.taken, self.turns = game.n, game.boards, game.taken, game.turns
+        return len(turns)
+
+    def record(self):
+        return record(self.n, [PASS if place is None else play(*place) for place in self.turns])
+
+    def save(self, most):
+        signs = list(self.record().encode("ascii"))
+        if most not in range(8193):
+            return [-2]
+        return [len(signs), *signs] if len(signs) <= most else [-1]
+
     def answer(self, call):
         if call[0] == 1:
             return [self.take_turn((call[1], call[2]))]
@@ -190,7 +311,13 @@ class SlowGame:
             return [self.take_turn(None)]
         if call[0] == 3:
             return [self.undo()]
-        return self.board()
+        if call[0] == 5:
+            return self.group((call[1], call[2]))
+        if call[0] == 8:
+            return [self.load(call[2:])]
+        if call[0] == 9:
+            return self.save(call[1])
+        return {4: self.board, 6: self.area, 7: self.lives}[call[0]]()
 
 
 def slow_answers(calls):
@@ -221,3 +348,19 @@ def long_game():
     for number in range(1, 153):
         calls += [play(*place_of(number)), PASS]
     return calls[:1024]
+
+
+def full_game(dice, n):
+    """Calls that take 1024 turns, or None where the game came to its end before."""
+    game = SlowGame(n)
+    calls = [begin(n)]
+    places = [(x, y) for x in range(n) for y in range(n)]
+    while len(game.turns) < 1024:
+        dice.shuffle(places)
+        call = next((play(*place) for place in places if game.take_turn(place) == 0), None)
+        if call is None:
+            game.take_turn(None)
+        if game.at_end():
+            return None
+        calls.append(call or PASS)
+    return calls

@@ -85,6 +85,35 @@ class Language(unittest.TestCase):
                 self.assertRegex(node.module, r"^stonesgame\.[a-z]+$", path)
                 self.assertNotIn("*", [alias.name for alias in node.names], path)
 
+    def test_the_top_of_a_module_holds_plain_values(self):
+        plain = (ast.Constant, ast.Dict, ast.List, ast.Tuple, ast.UnaryOp, ast.USub, ast.Name, ast.Load)
+        for path in FILES:
+            for node in ast.parse(path.read_text()).body:
+                if isinstance(node, ast.Assign):
+                    for part in ast.walk(node.value):
+                        self.assertIsInstance(part, plain, (path, node.lineno))
+                else:
+                    self.assertIsInstance(node, (ast.Expr, ast.ImportFrom, ast.FunctionDef, ast.ClassDef), path)
+
+    def test_no_local_is_called_like_an_import_or_a_class(self):
+        for path in FILES:
+            taken = {alias.name for node in nodes(path, ast.ImportFrom) for alias in node.names}
+            taken |= {node.name for node in nodes(path, ast.ClassDef)}
+            stored = {node.id for node in nodes(path, ast.Name) if isinstance(node.ctx, ast.Store)}
+            stored |= {node.arg for node in nodes(path, ast.arg)}
+            self.assertEqual(taken & stored, set(), path)
+
+    def test_every_import_is_used_and_stands_in_the_file_that_defines_it(self):
+        for path in FILES:
+            used = {node.id for node in nodes(path, ast.Name)}
+            for node in nodes(path, ast.ImportFrom):
+                source = PACKAGE / (node.module.split(".")[1] + ".py")
+                defined = {part.name for part in nodes(source, ast.FunctionDef, ast.ClassDef)}
+                defined |= {part.id for part in nodes(source, ast.Name) if isinstance(part.ctx, ast.Store)}
+                for alias in node.names:
+                    self.assertIn(alias.name, used, path)
+                    self.assertIn(alias.name, defined, path)
+
     def test_names(self):
         for path in FILES:
             for node in nodes(path, ast.Name):
